@@ -1,0 +1,1 @@
+"""Cells on a square that closes on itself."""
