@@ -1,29 +1,13 @@
 """A square of cells that closes on itself, and its rule."""
 
-SIDE = 256
-FULL_ROW = 0xFFFFFFFFFFFFFFFFFFFFFFFFFFFFFFFFFFFFFFFFFFFFFFFFFFFFFFFFFFFFFFFF
-WORD_BITS = 64
-FULL_WORD = 0xFFFFFFFFFFFFFFFF
+from closedsquare.rows import FULL_ROW, SIDE, joined_bytes, living_in_row, moved_right
+
 FIRST_BORN = 8
 FIRST_STAYS = 12
 
 
-def moved_right(cells, columns):
-    """A row's cells moved right by 0 to 255 columns; what leaves at the right edge comes in at the left."""
-    shifted = cells << columns
-    return (shifted & FULL_ROW) | (shifted >> SIDE)
-
-
-def joined_bytes(row_bytes):
-    """The cells of a picture's row as one whole number, the lowest bit of the first byte leftmost."""
-    cells = 0
-    for place, byte in enumerate(row_bytes):
-        cells = cells | (byte << (8 * place))
-    return cells
-
-
 class Square:
-    """256 rows; each is one whole number whose bit x is the cell of column x, so that a row moves in one step."""
+    """256 rows from the top, each one whole number, and the rule."""
 
     def __init__(self):
         self.rows = [0] * SIDE
@@ -60,6 +44,5 @@ class Square:
             at = (y + k) % SIDE
             self.rows[at] = (self.rows[at] & outside) | moved_right(cells, x)
 
-    def row_words(self, y):
-        """The row's cells, 64 in a number, from the left."""
-        return [(self.rows[y] >> start) & FULL_WORD for start in range(0, SIDE, WORD_BITS)]
+    def how_many_live(self):
+        return sum([living_in_row(cells) for cells in self.rows])

@@ -1,17 +1,8 @@
-"""Point 1: begin and rule.
-
-No call that is there yet tells the rule, so these tests look at the squares themselves for it.
-"""
+"""Point 1: begin and rule."""
 
 import unittest
 
-from closedsquare.cells import Square
-from closedsquare.desk import answer_to
-from tests.lines import LEAST, MOST, REFUSAL, ask, begin, get, living, put, row, rule, set_cell
-
-
-def rule_of(square):
-    return square.born, square.stays
+from tests.lines import LEAST, MOST, REFUSAL, ask, begin, get, living, put, row, rule, rule_of, set_cell
 
 
 class Begin(unittest.TestCase):
@@ -37,19 +28,12 @@ class Begin(unittest.TestCase):
         self.assertEqual(told[3:], [[0], [0, 256, 0, 0, 0]])
 
     def test_the_rule_is_8_and_12(self):
-        squares = [None, None]
-        for o in (0, 1):
-            self.assertEqual(answer_to(squares, begin(o)), [0])
-        self.assertEqual([rule_of(square) for square in squares], [(8, 12), (8, 12)])
+        self.assertEqual([rule_of(o) for o in (0, 1)], [(8, 12), (8, 12)])
 
     def test_the_rule_is_8_and_12_when_it_comes_again(self):
-        squares = [Square(), Square()]
-        answer_to(squares, rule(0, 1, 2))
-        answer_to(squares, rule(1, 3, 4))
-        answer_to(squares, begin(0))
-        self.assertEqual([rule_of(square) for square in squares], [(8, 12), (3, 4)])
-        answer_to(squares, begin(1))
-        self.assertEqual(rule_of(squares[1]), (8, 12))
+        calls = (rule(0, 1, 2), rule(1, 3, 4), begin(0))
+        self.assertEqual([rule_of(o, *calls) for o in (0, 1)], [(8, 12), (3, 4)])
+        self.assertEqual([rule_of(o, *calls, begin(1)) for o in (0, 1)], [(8, 12), (8, 12)])
 
 
 class Rule(unittest.TestCase):
@@ -59,30 +43,26 @@ class Rule(unittest.TestCase):
     def test_both_numbers_from_0_to_511(self):
         for born in self.taken:
             for stays in self.taken:
-                squares = [Square(), Square()]
-                self.assertEqual(answer_to(squares, rule(1, born, stays)), [0])
-                self.assertEqual(rule_of(squares[1]), (born, stays))
-                self.assertEqual(rule_of(squares[0]), (8, 12))
+                self.assertEqual(ask(rule(1, born, stays)), [[0]])
+                self.assertEqual(rule_of(1, rule(1, born, stays)), (born, stays))
+                self.assertEqual(rule_of(0, rule(1, born, stays)), (8, 12))
 
     def test_every_number_from_0_to_511_is_taken(self):
-        squares = [Square(), Square()]
         for number in range(512):
-            self.assertEqual(answer_to(squares, rule(0, number, 511 - number)), [0])
-            self.assertEqual(rule_of(squares[0]), (number, 511 - number))
+            self.assertEqual(ask(rule(0, number, 511 - number)), [[0]])
+            self.assertEqual(rule_of(0, rule(0, number, 511 - number)), (number, 511 - number))
+
+    def test_the_last_rule_holds(self):
+        self.assertEqual(rule_of(0, rule(0, 511, 511), rule(0, 7, 70)), (7, 70))
 
     def test_refused_and_nothing_changes(self):
         pairs = [(bad, good) for bad in self.refused for good in (0, 5, 511)]
         pairs += [(good, bad) for bad in self.refused for good in (0, 5, 511)]
         pairs += [(bad, bad) for bad in self.refused]
         for born, stays in pairs:
-            squares = [Square(), Square()]
-            answer_to(squares, rule(0, 100, 200))
-            self.assertEqual(answer_to(squares, rule(0, born, stays)), REFUSAL, (born, stays))
-            self.assertEqual(rule_of(squares[0]), (100, 200), (born, stays))
-
-    def test_through_the_interface(self):
-        calls = (rule(0, 0, 511), rule(1, 511, 0), rule(0, -1, 0), rule(0, 0, -1), rule(1, 512, 0), rule(1, 0, 512))
-        self.assertEqual(ask(*calls), [[0], [0]] + [REFUSAL] * 4)
+            calls = (rule(0, 100, 200), rule(0, born, stays))
+            self.assertEqual(ask(*calls), [[0], REFUSAL], (born, stays))
+            self.assertEqual(rule_of(0, *calls), (100, 200), (born, stays))
 
     def test_cells_stay(self):
         calls = (set_cell(0, 7, 8), rule(0, 0, 0), rule(0, 511, 512))
